@@ -1,0 +1,1 @@
+"""Who can still win: a standing of wrestlers, the bouts that are left, and who may be first."""
