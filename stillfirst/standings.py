@@ -6,9 +6,12 @@ BEGINS = 0
 WRESTLER = 1
 BOUT = 2
 CHECK = 3
+CAN = 4
+ODDS = 5
+NEEDS = 6
 
-# How many numbers the calls begins, wrestler and bout have behind their own number.
-PLAIN_NUMBERS = (0, 1, 2)
+# For each call how many numbers it has behind its own, without an outcome but with its count.
+PLAIN_NUMBERS = (0, 1, 2, 1, 1, 1, 1)
 
 
 def answers(calls):
@@ -28,9 +31,10 @@ def answers(calls):
 def place_behind(calls, place):
     """The place behind the last number of the call that begins at this place."""
     call = calls[place]
+    behind = place + 1 + PLAIN_NUMBERS[call]
     if call == CHECK:
-        return place + 2 + calls[place + 1]
-    return place + 1 + PLAIN_NUMBERS[call]
+        return behind + calls[place + 1]
+    return behind
 
 
 def answer_of_call(standing, call, handed):
@@ -41,5 +45,11 @@ def answer_of_call(standing, call, handed):
         return standing.wrestler(handed[0])
     if call == BOUT:
         return standing.bout(handed[0], handed[1])
-    # The first number handed to check counts the outcome and is no part of it.
-    return standing.check(handed[1:])
+    if call == CHECK:
+        # The first number counts the outcome and is no part of it.
+        return standing.check(handed[1:])
+    if call == CAN:
+        return standing.can(handed[0])
+    if call == ODDS:
+        return standing.odds(handed[0])
+    return standing.needs(handed[0])

@@ -4,7 +4,9 @@ Each call gives back the list of the numbers that it answers. A refusal is one
 number below 0, alone, and leaves everything as it was.
 """
 
-from stillfirst.outcomes import how_many_first, is_outcome, wins_in_the_end
+from stillfirst.outcomes import earliest_outcome, how_many_first, is_outcome
+from stillfirst.outcomes import most_won_in_vain, odds_of, wins_in_the_end
+from stillfirst.sets import bouts_left, set_in_the_way
 
 MOST_WRESTLERS = 6
 MOST_WINS = 15
@@ -14,6 +16,7 @@ WRONG_NUMBER = -1
 NOT_THERE = -2
 BOTH_THE_SAME = -4
 NO_ROOM = -5
+NOT_SURE = -6
 
 
 class Standing:
@@ -59,6 +62,32 @@ class Standing:
             return [WRONG_NUMBER]
         ends = wins_in_the_end(self.wins, self.bouts, outcome)
         return [how_many_first(ends)] + ends
+
+    def can(self, who):
+        """Answer 1 and the earliest outcome by which this one is first, or 0 and the set in the way."""
+        if not self.is_there(who):
+            return [NOT_THERE]
+        outcome = earliest_outcome(self.wins, self.bouts, who)
+        if outcome is None:
+            return [0, set_in_the_way(self.wins, self.bouts, who)]
+        return [1] + outcome
+
+    def odds(self, who):
+        """Answer how often this one is first alone, how often not alone, and how many outcomes there are."""
+        if not self.is_there(who):
+            return [NOT_THERE]
+        return odds_of(self.wins, self.bouts, who)
+
+    def needs(self, who):
+        """Answer how many bouts this one has to win, at the least, to be first whatever else comes."""
+        if not self.is_there(who):
+            return [NOT_THERE]
+        in_vain = most_won_in_vain(self.wins, self.bouts, who)
+        if in_vain is None:
+            return [0]
+        if in_vain == bouts_left(self.bouts, who):
+            return [NOT_SURE]
+        return [in_vain + 1]
 
     def is_there(self, who):
         """Whether there is a wrestler of this number."""

@@ -21,6 +21,18 @@ def check(*outcome):
     return [3, len(outcome), *outcome]
 
 
+def can(who):
+    return [4, who]
+
+
+def odds(who):
+    return [5, who]
+
+
+def needs(who):
+    return [6, who]
+
+
 def standing(wins, bouts):
     """The calls that tell a whole standing: a list of calls."""
     return [wrestler(so_far) for so_far in wins] + [bout(*pair) for pair in bouts]
@@ -61,6 +73,9 @@ def expect_refusal(test, before, refused, code):
         wrestler(7),
         check(*[0] * bouts_there),
         check(*[1] * (bouts_there + 1)),
+        can(0),
+        odds(0),
+        needs(1),
     ]
     with_it = ask(before + [refused] + behind)
     test.assertEqual(with_it[len(before)], [code])
